@@ -1,0 +1,1 @@
+"""Treespace: the one shortest way between any two trees."""
