@@ -21,6 +21,12 @@ INTERFACE = {
         "fits": ["many", "one", "other"], "shapes": ["many", "roads"], "around": ["many", "shape"],
         "shape_of": ["tree"], "renamed": ["tree", "order"], "joined": ["one", "other", "length"],
     },
+    "covers.py": {"cheaper": ["many", "one", "other"], "shares": ["many", "one", "other"]},
+    "ways.py": {
+        "shared": ["one", "other"], "chain": ["one", "other"], "square": ["one", "other"], "bounds": ["one", "other"],
+        "unshared": ["one", "other"],
+    },
+    "papers.py": {"way_paper": ["one", "other"], "shows_way": ["one", "other", "thing"]},
 }
 
 LIBRARY = {

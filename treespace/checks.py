@@ -25,3 +25,12 @@ def is_fraction(value):
 def rises(values):
     """Whether each of these comparable values is above the one ahead of it."""
     return all([value < following for value, following in zip(values, values[1:])])
+
+
+def is_same(value, known):
+    """Whether a value is what is known, made of integers and tuples, its kinds counted: True is not 1."""
+    if not isinstance(known, tuple):
+        return is_whole(value) and value == known
+    if not isinstance(value, tuple) or len(value) != len(known):
+        return False
+    return all([is_same(part, own) for part, own in zip(value, known)])
