@@ -262,8 +262,8 @@ class BentTest(Case):
         deep = ()
         for _ in range(5000):
             deep = (deep, deep)
-        things = [None, 0, 1, -1, 10 ** 50, True, False, "", "paper", str(paper), {}, {paper[0]: paper[1]}, [], (), deep,
-                  (deep, deep), (paper[0], deep), (paper[0], (deep, deep)), (paper,), paper + paper, (None, None),
+        things = [None, 0, 1, -1, 10 ** 50, True, False, "", "paper", str(paper), {}, {paper[0]: paper[1]}, [], (),
+                  deep, (deep, deep), (paper[0], deep), (paper[0], (deep, deep)), (paper,), paper + paper, (None, None),
                   (paper[0], None), (None, paper[1]), (paper[0], {}), (paper[0], {0: paper[1]}), (paper[0], "ab"),
                   (paper[0], (None, None)), (paper[0], ((None,), (None,))), (paper[0], (((1, 2, 3),), ((1, 2, 3),)))]
         for thing in things:
