@@ -3,9 +3,13 @@
 import unittest
 
 from treespace.covers import cheaper, shares
-from treespace.errors import BadSum, BadTree
+from treespace.errors import BadChain, BadSum, BadText, BadTree
+from treespace.lengths import always_star, lengths_for, open_chains
+from treespace.means import is_mean, pull, spider, square_sum
 from treespace.papers import shows_way, way_paper
 from treespace.roots import figures, plus, root, sign
+from treespace.spots import breaks, past_star, spot, stretches
+from treespace.texts import read, write
 from treespace.trees import around, fits, renamed, shapes
 from treespace.ways import bounds, chain, shared, square
 
@@ -66,6 +70,51 @@ class ExamplesTest(unittest.TestCase):
     def test_papers_error(self):
         with self.assertRaises(BadTree):
             shows_way((3, ()), (4, ()), None)
+
+    def test_spots(self):
+        self.assertEqual(
+            [breaks(ONE, OTHER), spot(ONE, OTHER, (1, 2))],
+            [(((1, (3, 4)),), ((1, (4, 5)),)), (((1, 2), ((1, (1, 1)),)), ((1, 2, 3), ((1, (3, 2)),)))],
+        )
+
+    def test_stretches(self):
+        self.assertEqual(
+            [stretches((3, (((1, 2), (1, 1)),)), (3, (((1, 3), (1, 1)),))),
+             past_star((4, ()), (4, (((1, 2), (1, 1)),)))],
+            [(((1, 2),), ((1, 3),)), True],
+        )
+
+    def test_lengths(self):
+        self.assertEqual(
+            [len(open_chains(4, ((1, 2), (1, 2, 3)), ((2, 3), (2, 3, 4)))),
+             always_star(4, ((1, 2), (3, 4)), ((1, 3), (2, 4)))],
+            [2, True],
+        )
+
+    def test_lengths_error(self):
+        with self.assertRaises(BadChain):
+            lengths_for(4, ((1, 2),), ((1, 3),), ())
+
+    def test_means(self):
+        some = ((3, (((1, 2), (5, 1)),)), (3, (((1, 2), (3, 1)),)), (3, (((1, 3), (2, 1)),)))
+        tree = (3, (((1, 2), (2, 1)),))
+        self.assertEqual(
+            [spider(some), is_mean(tree, some), square_sum(tree, some)],
+            [(((1, 2), (2, 1)),), True, ((1, (26, 1)),)],
+        )
+
+    def test_pull(self):
+        self.assertEqual(
+            pull((3, (((1, 2), (1, 1)),)), ((3, (((1, 3), (2, 1)),)),)),
+            (((1, 2), ((1, (3, 1)),)),),
+        )
+
+    def test_write(self):
+        self.assertEqual(write((4, (((1, 2), (3, 2)), ((1, 2, 3), (5, 1))))), '4: 1 2 = 3/2; 1 2 3 = 5;')
+
+    def test_read_error(self):
+        with self.assertRaises(BadText):
+            read('4: 2 1 = 3;')
 
 
 if __name__ == "__main__":

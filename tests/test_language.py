@@ -7,7 +7,7 @@ from pathlib import Path
 
 PACKAGE = Path(__file__).resolve().parent.parent / "treespace"
 
-# Each file of the interface that has landed, with its functions and classes and their arguments.
+# Each file of the interface, with its functions and classes and their arguments.
 INTERFACE = {
     "errors.py": {
         "TreeError": None, "BadFraction": None, "BadSum": None, "BadNumber": None, "BadLot": None, "BadShape": None,
@@ -27,6 +27,18 @@ INTERFACE = {
         "unshared": ["one", "other"],
     },
     "papers.py": {"way_paper": ["one", "other"], "shows_way": ["one", "other", "thing"]},
+    "spots.py": {
+        "breaks": ["one", "other"], "spot": ["one", "other", "share"], "stretches": ["one", "other"],
+        "past_star": ["one", "other"],
+    },
+    "lengths.py": {
+        "open_chains": ["many", "one", "other"], "lengths_for": ["many", "one", "other", "told"],
+        "always_star": ["many", "one", "other"],
+    },
+    "means.py": {
+        "square_sum": ["tree", "some"], "pull": ["tree", "some"], "is_mean": ["tree", "some"], "spider": ["some"],
+    },
+    "texts.py": {"write": ["tree"], "read": ["text"]},
 }
 
 LIBRARY = {
@@ -45,7 +57,10 @@ BUILTINS = {
     "tuple", "dict", "isinstance", "ord", "any", "all", "divmod", "ValueError",
 }
 
-METHODS = {"append", "extend", "get", "items", "keys", "values", "index", "count", "split", "join", "pop", "insert"}
+METHODS = {
+    "append", "extend", "get", "items", "keys", "values", "index", "count", "split", "join", "pop", "insert",
+    "partition", "update",
+}
 
 
 def files():

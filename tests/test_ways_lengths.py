@@ -1,51 +1,18 @@
 """Points 5 and 7: the square of the way's length, its bounds, and what holds of shortest walks."""
 
 import unittest
-from decimal import Decimal, localcontext
+from decimal import localcontext
 
 from treespace.roots import figures, plus, sign, times
 from treespace.sums import sum_plus, sum_sign, sum_times
 from treespace.trees import renamed
-from treespace.ways import bounds, chain, shared, square, unshared
+from treespace.ways import bounds, chain, square, unshared
 from tests import tries
+from tests.measures import MINUS, changes, fraction_sum, least_square, whole
 from tests.values import kinds
 
 LEFT = (4, (((1, 2), (3, 1)), ((1, 2, 3), (4, 1))))
 RIGHT = (4, (((2, 3), (1, 1)), ((2, 3, 4), (1, 1))))
-MINUS = ((1, (-1, 1)),)
-
-
-def whole(number):
-    return ((1, (number, 1)),) if number else ()
-
-
-def fraction_sum(number):
-    """A fraction of Python as a sum."""
-    return ((1, (number.numerator, number.denominator)),) if number else ()
-
-
-def changes(one, other):
-    """The sum of the squares of the changes of all lengths that are shared."""
-    return sum((tries.value(mine) - tries.value(its)) ** 2 for _, mine, its in shared(one, other))
-
-
-def decimal(fraction):
-    return Decimal(fraction.numerator) / Decimal(fraction.denominator)
-
-
-def least_square(one, other):
-    """The least of what the squares add up to for all rows of legs whose quotients don't fall: a Decimal."""
-    found = []
-    for row in tries.rows_of_legs(*tries.unshared_roads(one, other)):
-        quotients = [tries.quotient(leg) for leg in row]
-        if any(before > behind for before, behind in zip(quotients, quotients[1:])):
-            continue
-        total = decimal(tries.Fraction(changes(one, other)))
-        for first, second in row:
-            sizes = [decimal(tries.size_square(side)).sqrt() for side in (first, second)]
-            total += (sizes[0] + sizes[1]) ** 2
-        found.append(total)
-    return min(found)
 
 
 def fits_whole(one, other):

@@ -22,6 +22,11 @@ def size(roads):
     return root_sum(reduced(quarters(roads), 4))
 
 
+def quotient(one, other):
+    """The size of some roads by that of others, at least one, a sum."""
+    return root_sum(reduced(quarters(one), quarters(other)))
+
+
 def crossing(roads, others):
     """Those roads, in their order, whose lot doesn't fit some lot of the others."""
     return tuple([road for road in roads if any([not lots_fit(road[0], other[0]) for other in others])])

@@ -23,6 +23,11 @@ def fraction_times(one, other):
     return reduced(one[0] * other[0], one[1] * other[1])
 
 
+def fraction_sum(one):
+    """The sum that is a fraction."""
+    return ((1, one),) if one[0] != 0 else ()
+
+
 def square_split(number):
     """The pair (outside, radicand) with number == outside ** 2 * radicand and no square in the radicand."""
     outside = 1

@@ -13,6 +13,12 @@ def check_many(value):
         raise BadNumber()
 
 
+def check_tree(value):
+    """Raise BadTree for what is no tree."""
+    if not is_tree(value):
+        raise BadTree()
+
+
 def all_lots(many):
     """All lots of so many tips, rising."""
     return sorted([lot for size in range(2, many) for lot in combinations(range(1, many + 1), size)])
@@ -56,8 +62,7 @@ def around(many, shape):
 
 def shape_of(tree):
     """The shape of a tree."""
-    if not is_tree(tree):
-        raise BadTree()
+    check_tree(tree)
     return tuple([lot for lot, _ in tree[1]])
 
 
@@ -70,8 +75,7 @@ def is_order(many, value):
 
 def renamed(tree, order):
     """The tree in which each tip is called by its new name, order[tip - 1]."""
-    if not is_tree(tree):
-        raise BadTree()
+    check_tree(tree)
     many, roads = tree
     if not is_order(many, order):
         raise BadNumber()

@@ -3,7 +3,7 @@
 from treespace.errors import BadTree
 from treespace.forms import is_tree
 from treespace.sides import crossing, doubled, groups, lots_of, quarters, size, without
-from treespace.sums import reduced, sum_plus, sum_times
+from treespace.sums import fraction_sum, reduced, sum_plus, sum_times
 
 
 def check_trees(one, other):
@@ -53,7 +53,7 @@ def way_legs(one, other):
 
 def quartered(number):
     """The sum that is an integer by 4."""
-    return ((1, reduced(number, 4)),) if number != 0 else ()
+    return fraction_sum(reduced(number, 4))
 
 
 def changed(one, other):
